@@ -1,0 +1,1 @@
+"""fullshelves, restock: shelves that are never found empty."""
