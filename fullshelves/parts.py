@@ -92,6 +92,11 @@ def write_u16(number):
     return [number % 256, number // 256]
 
 
+def write_text(octets):
+    """A text, of these octets."""
+    return write_u16(len(octets)) + octets
+
+
 def write_row(row):
     """A stock, or items."""
     return [len(row)] + list(row)

@@ -4,7 +4,7 @@ from fullshelves.errors import NoRound, NoStock, OtherShelves, Refusal
 from fullshelves.keeping import dooms, fewest_onto, fewest_put, first_attack, first_filling, first_parting, least_stocks
 from fullshelves.parts import ATTACK, DOOM, FEWEST, FILL, FILLING, FORMAT, LEAST, LOOK, PARTING, ROUND, SAFE, SELL
 from fullshelves.parts import UNDO, take_apart, write_flag, write_maybe_row, write_maybe_u8, write_maybe_u16
-from fullshelves.parts import write_row, write_rows
+from fullshelves.parts import write_row, write_rows, write_text
 from fullshelves.reading import read_shop
 from fullshelves.rounds import Round
 from fullshelves.shop import canonical_text
@@ -63,7 +63,7 @@ class Session:
 def answer_of_shop(number, shop):
     """What format, least and fewest answer."""
     if number == FORMAT:
-        return canonical_text(shop)
+        return write_text(canonical_text(shop))
     if number == LEAST:
         return write_rows(least_stocks(shop, dooms(shop)))
     return write_maybe_u8(fewest_put(shop)) + write_maybe_u8(fewest_onto(shop))

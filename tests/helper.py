@@ -120,6 +120,12 @@ def maybe_u16(number):
     return [0] if number is None else [1] + u16(number)
 
 
+def read_text(answer):
+    """The text of an answer that is nothing but a text."""
+    assert answer[0] == 0 and answer[1] + 256 * answer[2] == len(answer) - 3, answer
+    return "".join(map(chr, answer[3:]))
+
+
 def read_maybe_row(answer):
     """The row, or None, of an answer that is nothing but maybe a row."""
     if answer == [0, 0]:

@@ -4,8 +4,8 @@ import unittest
 
 from fullshelves.session import answers
 from helper import (
-    ATTACK, DOOM, FEWEST, FILLING, FORMAT, LEAST, SAFE, ask, begin, fill, look, look_answer, octets, of_stock,
-    of_text, parting, sell, session,
+    ATTACK, DOOM, FEWEST, FILLING, FORMAT, LEAST, SAFE, ask, begin, fill, look, look_answer, of_stock,
+    of_text, parting, sell, session, text_part,
 )
 
 SHELVES = "shelf tea 2\nshelf jam 1\n"
@@ -13,16 +13,21 @@ SHOP = SHELVES + "customers 2 of 1\nstocker 2 onto 2"
 SLOW = SHELVES + "customers 2 of 1\nstocker 1 onto 1"
 CALM = SHELVES + "customers 1 of 1\nstocker 1 onto 1"
 
+TEA = [
+    115, 104, 101, 108, 102, 32, 116, 101, 97, 32, 50, 10, 99, 117, 115, 116, 111, 109, 101, 114, 115, 32,
+    49, 32, 111, 102, 32, 49, 10, 115, 116, 111, 99, 107, 101, 114, 32, 49, 32, 111, 110, 116, 111, 32, 49,
+]
+
 
 class Interface(unittest.TestCase):
     def test_the_two_examples_octet_by_octet(self):
-        text = [
-            115, 104, 101, 108, 102, 32, 116, 101, 97, 32, 50, 10, 99, 117, 115, 116, 111, 109, 101, 114, 115, 32,
-            49, 32, 111, 102, 32, 49, 10, 115, 116, 111, 99, 107, 101, 114, 32, 49, 32, 111, 110, 116, 111, 32, 49,
-        ]
-        self.assertEqual(45, len(text))
-        calls = [0, 49, 9, 2, 45, 0] + text + [0, 2, 13, 2]
+        self.assertEqual(45, len(TEA))
+        calls = [0, 49, 9, 2, 45, 0] + TEA + [0, 2, 13, 2]
         self.assertEqual([1, 0, 8, 0, 1, 2, 0, 1, 1, 1, 0], answers(calls))
+
+    def test_a_text_is_answered_behind_its_length(self):
+        self.assertEqual([48, 0, 45, 0] + TEA, answers([0, 48, 1, 45, 0] + TEA))
+        self.assertEqual([48, 0, 45, 0] + TEA, answers([0, 50, 1, 47, 0] + TEA + [32, 10]))
 
     def test_answers_stand_behind_their_lengths(self):
         # Of errors, too: 1 and the number of the error; behind error 3 the number of the line.
@@ -40,7 +45,7 @@ class Interface(unittest.TestCase):
 
 class SectionOne(unittest.TestCase):
     def test_the_shop_of_tea_and_jam(self):
-        self.assertEqual([0] + octets(SHOP), ask(of_text(FORMAT, SHOP)))
+        self.assertEqual([0] + text_part(SHOP), ask(of_text(FORMAT, SHOP)))
         self.assertEqual([0, 1], ask(of_stock(SAFE, SHOP, (0, 0))))
         self.assertEqual([0, 1, 2, 1, 1], ask(of_stock(FILLING, SHOP, (0, 0))))
         self.assertEqual([0, 0], ask(of_stock(DOOM, SHOP, (0, 0))))

@@ -3,7 +3,7 @@
 import itertools
 import unittest
 
-from helper import FORMAT, ask, ask_each, octets, of_text
+from helper import FORMAT, ask, ask_each, of_text, read_text, text_part
 
 FIRST = "shelf tea 2"
 CUSTOMERS = "customers 2 of 1"
@@ -13,7 +13,7 @@ PLAIN = "\n".join([FIRST, CUSTOMERS, STOCKER])
 
 class Texts(unittest.TestCase):
     def reads(self, text, canonical):
-        self.assertEqual([0] + octets(canonical), ask(of_text(FORMAT, text)), text)
+        self.assertEqual([0] + text_part(canonical), ask(of_text(FORMAT, text)), text)
 
     def faults(self, text, line):
         self.assertEqual([1, 3, line, 0], ask(of_text(FORMAT, text)), text)
@@ -78,7 +78,7 @@ class Digits(Texts):
         line = form[:form.index("?")].count("\n") + 1
         given = ask_each([of_text(FORMAT, form.replace("?", word) + "\n") for word in words])
         for word, answer in zip(words, given):
-            right = [0] + octets(form.replace("?", word))
+            right = [0] + text_part(form.replace("?", word))
             self.assertEqual(right if word and word in allowed else [1, 3, line, 0], answer, repr(word))
 
     def test_rooms_from_1_to_4(self):
@@ -175,6 +175,17 @@ class Orders(Texts):
 
 
 class Canonical(Texts):
+    def test_its_length_stands_ahead_of_it(self):
+        # The least and the greatest length of a canonical text; the length is not that of the text handed in.
+        least = "shelf a 1\ncustomers 1 of 1\nstocker 1 onto 1"
+        shelves = "shelf abcdefgh 4\nshelf abcdefgi 4\nshelf abcdefgj 4"
+        greatest = shelves + "\ncustomers 4 of 4\nstocker 9 onto 3"
+        for text, length in ((least, 43), (greatest, 84)):
+            for given in (text, "  " + text + " \n", text.replace(" ", "   "), "\n" * 50 + text.replace("\n", "\n \n")):
+                answer = ask(of_text(FORMAT, given))
+                self.assertEqual([0, length, 0], answer[:3], given)
+                self.assertEqual([ord(sign) for sign in text], answer[3:], given)
+
     def test_the_canonical_text_is_read_as_the_same_shop(self):
         requests = []
         for rooms in itertools.product((1, 2, 4), repeat=3):
@@ -184,8 +195,7 @@ class Canonical(Texts):
                     lines = shelves + [f" customers {wanted} of  {of_one}", "", f"stocker {put}  onto {count} "]
                     requests.append(of_text(FORMAT, "\n".join(lines)))
         for request, answer in zip(requests, ask_each(requests)):
-            text = "".join(map(chr, answer[1:]))
-            self.assertEqual(0, answer[0])
+            text = read_text(answer)
             self.assertEqual(" ".join("".join(map(chr, request[3:])).split()), " ".join(text.split()))
             self.assertEqual(text, "\n".join(" ".join(line.split(" ")) for line in text.split("\n")))
             self.assertEqual(answer, ask(of_text(FORMAT, text)))
